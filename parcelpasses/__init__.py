@@ -1,0 +1,1 @@
+"""Parcels that go from node to node by passes known beforehand."""
