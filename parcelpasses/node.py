@@ -1,14 +1,18 @@
 """One node: the parcels it holds, and what it does at each call."""
 
-from parcelpasses.messages import parcel_message
-from parcelpasses.parcel import MOST_BYTES, Parcel, in_order
+from parcelpasses.messages import kept_from, kept_message, parcel_from, parcel_message
+from parcelpasses.parcel import MOST_BYTES, Parcel, in_order, key_of
 from parcelpasses.plan import LAST_TIME
 from parcelpasses.ways import ways_from
 
+DONE = 0
 NOT_AS_TOLD = -22
 FULL = -28
 TIME_IS_OVER = -34
+NO_MESSAGE = -71
 MOST_HELD = 64
+MOST_ARRIVED = 64
+MOST_KNOWN = 256
 
 
 # Parcels held, and the ends of those known, are kept by source and number.
@@ -67,9 +71,83 @@ class Node:
 
     # The parcel keeps its own leg: only one who has got it, and says so, is known to be further.
     def send_by(self, by, parcel):
-        message = parcel_message(parcel, parcel.leg + 1)
         parcel.waits_till = self.time + 2 * by.takes
-        return [by.number, len(message)] + message
+        return told_by(by, parcel_message(parcel, parcel.leg + 1))
+
+    def hear(self, pass_number, message):
+        by = self.own_pass(pass_number)
+        if by is None:
+            return [NOT_AS_TOLD]
+        parcel = parcel_from(message, self.plan)
+        if parcel is not None:
+            return [DONE] + self.hear_parcel(by, parcel)
+        kept = kept_from(message, self.plan)
+        if kept is None:
+            return [NO_MESSAGE]
+        self.hear_kept(kept)
+        return [DONE]
+
+    def own_pass(self, number):
+        for each in self.plan.passes_of[self.me]:
+            if each.number == number:
+                return each
+        return None
+
+    def hear_parcel(self, by, parcel):
+        if self.take_in(parcel) and by.is_open_at(self.time):
+            return told_by(by, kept_message(parcel))
+        return []
+
+    # False where the parcel is not safe here: who sent it must not be told to let it go.
+    def take_in(self, parcel):
+        if parcel.end < self.time:
+            return False
+        # Its number will be that of another parcel yet to be put.
+        if parcel.source == self.me and parcel.number > self.own_count:
+            return False
+        if parcel.to == self.me:
+            return self.take_as_arrived(parcel)
+        return self.take_to_hold(parcel)
+
+    def take_as_arrived(self, parcel):
+        key = key_of(parcel)
+        if key in self.known:
+            return True
+        if len(self.arrived) >= MOST_ARRIVED or len(self.known) >= MOST_KNOWN:
+            return False
+        self.arrived.append(parcel)
+        self.known[key] = parcel.end
+        return True
+
+    # The greater leg stays, so that a late word for a lesser one can't put out what came back since.
+    def take_to_hold(self, parcel):
+        key = key_of(parcel)
+        if key in self.held:
+            held = self.held[key]
+            held.leg = max(held.leg, parcel.leg)
+            return True
+        if len(self.held) >= MOST_HELD:
+            return False
+        self.held[key] = parcel
+        return True
+
+    def hear_kept(self, kept):
+        key = key_of(kept)
+        if key in self.held and self.held[key].leg + 1 == kept.leg:
+            self.held.pop(key)
+
+    def read(self):
+        if not self.arrived:
+            return [0]
+        parcel = self.arrived.pop(0)
+        return [len(parcel.data) + 1, parcel.source, parcel.number, parcel.end] + parcel.data
+
+    def state(self):
+        return [DONE, self.time, len(self.held), len(self.arrived), len(self.known)]
+
+
+def told_by(by, message):
+    return [by.number, len(message)] + message
 
 
 # The pass is usable now, so a way that begins with it begins now. A way begins with one pass alone:

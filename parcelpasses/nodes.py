@@ -1,12 +1,14 @@
 """The calls on one node, and their answers, as one list of whole numbers each."""
 
-from parcelpasses.node import NOT_AS_TOLD, Node
+from parcelpasses.node import DONE, NOT_AS_TOLD, Node
 from parcelpasses.plan import plan_of
 
 CALL_START = 0
 CALL_PUT = 1
 CALL_TICK = 2
-DONE = 0
+CALL_HEARD = 3
+CALL_READ = 4
+CALL_STATE = 5
 
 
 class UnknownCall(ValueError):
@@ -41,6 +43,12 @@ class Line:
             return self.answer_put()
         if call == CALL_TICK:
             return self.node.tick()
+        if call == CALL_HEARD:
+            return self.answer_heard()
+        if call == CALL_READ:
+            return self.node.read()
+        if call == CALL_STATE:
+            return self.node.state()
         raise UnknownCall(f"no such call: {call}")
 
     def answer_start(self):
@@ -56,6 +64,10 @@ class Line:
         to = self.take_number()
         end = self.take_number()
         return self.node.put(to, end, self.take_row())
+
+    def answer_heard(self):
+        pass_number = self.take_number()
+        return self.node.hear(pass_number, self.take_row())
 
 
 def answers(calls):
